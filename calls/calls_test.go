@@ -25,11 +25,7 @@ func TestRules(t *testing.T) {
 	for range rounds {
 		for _, c := range listed() {
 			f := reflect.ValueOf(c.f)
-			var args []reflect.Value
-			for k := range f.Type().NumIn() {
-				args = append(args, d.value(f.Type().In(k)))
-			}
-			ask(t, d, c.name, f, args)
+			ask(t, d, c.name, f, arguments(f, d.value))
 			if t.Failed() {
 				return
 			}
@@ -41,12 +37,17 @@ func TestNilOfAllCalls(t *testing.T) {
 	d := &dice{kept: map[reflect.Type][]reflect.Value{}}
 	for _, c := range listed() {
 		f := reflect.ValueOf(c.f)
-		var args []reflect.Value
-		for k := range f.Type().NumIn() {
-			args = append(args, reflect.Zero(f.Type().In(k)))
-		}
-		ask(t, d, c.name, f, args)
+		ask(t, d, c.name, f, arguments(f, reflect.Zero))
 	}
+}
+
+// arguments are those of f, each told by its type.
+func arguments(f reflect.Value, each func(reflect.Type) reflect.Value) []reflect.Value {
+	var args []reflect.Value
+	for k := range f.Type().NumIn() {
+		args = append(args, each(f.Type().In(k)))
+	}
+	return args
 }
 
 // ask calls f twice, and holds what it does against the rules.
