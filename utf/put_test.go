@@ -1,0 +1,65 @@
+package utf_test
+
+import (
+	"bytes"
+	"math"
+	"slices"
+	"testing"
+
+	"lapwing/utf"
+)
+
+func TestPut(t *testing.T) {
+	for r, want := range map[int][]byte{
+		0: {0x00}, 'A': {0x41}, 0x7F: {0x7F},
+		0x80: {0xC2, 0x80}, 0xE9: {0xC3, 0xA9}, 0x7FF: {0xDF, 0xBF},
+		0x800: {0xE0, 0xA0, 0x80}, 0xFFF: {0xE0, 0xBF, 0xBF}, 0x1000: {0xE1, 0x80, 0x80}, 0x20AC: {0xE2, 0x82, 0xAC},
+		0xCFFF: {0xEC, 0xBF, 0xBF}, 0xD000: {0xED, 0x80, 0x80}, 0xD7FF: {0xED, 0x9F, 0xBF}, 0xE000: {0xEE, 0x80, 0x80},
+		0xEFFF: {0xEE, 0xBF, 0xBF}, 0xF000: {0xEF, 0x80, 0x80}, 0xFFFD: {0xEF, 0xBF, 0xBD}, 0xFFFF: {0xEF, 0xBF, 0xBF},
+		0x10000: {0xF0, 0x90, 0x80, 0x80}, 0x1F600: {0xF0, 0x9F, 0x98, 0x80}, 0x3FFFF: {0xF0, 0xBF, 0xBF, 0xBF}, 0x40000: {0xF1, 0x80, 0x80, 0x80},
+		0xFFFFF: {0xF3, 0xBF, 0xBF, 0xBF}, 0x100000: {0xF4, 0x80, 0x80, 0x80}, 0x10FFFF: {0xF4, 0x8F, 0xBF, 0xBF},
+	} {
+		if b := utf.Put(r); !bytes.Equal(b, want) {
+			t.Errorf("P3.3: %x: %x", r, b)
+		}
+	}
+}
+
+func TestPutOfNoLetter(t *testing.T) {
+	none := []int{math.MinInt, math.MinInt + 'a', math.MinInt32, -0x110000, -0x10FFFF, -0xD800, -'a', -2, -1,
+		0x110000, 0x110001, 0x1FFFFF, 0x200000, math.MaxInt32, 1 << 31, 1<<31 + 'a', 1<<32 - 1, 1 << 32, 1<<32 + 'a', 1<<32 + 0x10FFFF, 3<<32 + 0x20AC, -1<<32 + 'a', math.MaxInt}
+	for r := 0xD800; r <= 0xDFFF; r++ {
+		none = append(none, r)
+	}
+	for _, r := range none {
+		if b := utf.Put(r); !bytes.Equal(b, []byte{0xEF, 0xBF, 0xBD}) {
+			t.Errorf("P3.3: %x: %x", r, b)
+		}
+	}
+}
+
+// TestEveryLetter asks P3.3 and P3.4 of all letters: what is put is read, whole and in pieces.
+func TestEveryLetter(t *testing.T) {
+	r := 0
+	every(func(b []byte) {
+		if r == 0xD800 {
+			r = 0xE000
+		}
+		if x := utf.Put(r); !bytes.Equal(x, b) {
+			t.Errorf("P3.3: %x: %x, not %x", r, x, b)
+		}
+		if l := utf.All(b); !slices.Equal(l, []int{r}) {
+			t.Errorf("P3.4: of %x: %x", r, l)
+		}
+		n := 1 + r%len(b)
+		s, l := utf.Feed(utf.State{}, b[:n])
+		u, m := utf.Feed(s, b[n:])
+		if l = append(l, m...); !slices.Equal(l, []int{r}) || len(u.B) != 0 || n < len(b) && !bytes.Equal(s.B, b[:n]) {
+			t.Errorf("P3.4: of %x, cut at %d: %x, left %x, and then %x", r, n, l, s.B, u.B)
+		}
+		r++
+	})
+	if r != 0x110000 {
+		t.Errorf("the test's own letters end ahead of %x", r)
+	}
+}
